@@ -1,0 +1,1 @@
+"""Leaves torn out of a book: tornleaves.book.answers tells of them."""
