@@ -33,6 +33,35 @@ def first(m, s):
     return [6, m, s]
 
 
+def ways(m, s):
+    return [7, m, s]
+
+
+def numbers(s):
+    return [8, s]
+
+
+def all_sets(s):
+    return [9, s]
+
+
+def pieces(s):
+    return [10, s]
+
+
+def gaps():
+    return [11]
+
+
+def rid(s):
+    return [12, s]
+
+
+def pages_sum(leaves):
+    """The sum of the leaves' pages, page by page."""
+    return sum(2 * k - 1 + 2 * k for k in leaves)
+
+
 def flat(calls):
     return [number for call in calls for number in call]
 

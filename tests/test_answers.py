@@ -2,10 +2,13 @@
 
 import contextlib
 import io
+import time
 import unittest
 
 import tornleaves.book
-from calls import LARGEST, ask, book, can, first, flat, put, shows, sums, tear
+from calls import (
+    LARGEST, all_sets, ask, book, can, first, flat, gaps, numbers, pieces, put, rid, shows, sums, tear, ways,
+)
 
 MIXED = [
     book(12), tear(12), tear(3), tear(12), tear(13), shows(), sums(), put(3), put(3), put(0),
@@ -22,6 +25,27 @@ MIXED_ANSWERS = [
     [-2], [1, 2], [1], [1], [1, 1], [-1], [60], [59, 60],
     [30] + list(range(1, 31)), [1], [-1], [-2], [-2],
 ]
+
+MIXED_LATER = [
+    ways(2, 18), tear(4), tear(5), gaps(), tear(1), gaps(), rid(42), rid(37), rid(36), rid(210),
+    ways(11, 0), numbers(105), numbers(1831), all_sets(18), all_sets(LARGEST), pieces(105), pieces(1831), put(4),
+    gaps(), sums(), shows(), rid(LARGEST), can(2, 18), first(2, 18), book(2), gaps(),
+    all_sets(10), pieces(7), tear(2), rid(10), rid(3), numbers(10), ways(2, 10), book(30), numbers(1830),
+    all_sets(1830), pieces(1830), tear(30), rid(234), ways(LARGEST, LARGEST),
+]
+
+MIXED_LATER_ANSWERS = [
+    [2], [7, 8], [9, 10], [1, 7, 10], [1, 2], [2, 1, 2, 7, 10], [-6], [0], [-6], [7, 2, 3, 6, 7, 8, 9, 10],
+    [-1], [2, 3, 7], [-1], [2], [-1], [2, 1, 7, 8, 10], [-1], [7, 8],
+    [2, 1, 2, 9, 10], [22, 188], [2, 1, 5], [-1], [1], [2, 1, 4], [4], [0],
+    [1], [1, 2, 2], [3, 4], [1, 1], [-6], [1, 2], [1], [60], [1, 30],
+    [1], [1, 1, 30], [59, 60], [1, 29], [-1],
+]
+
+LINES = (
+    (MIXED, MIXED_ANSWERS),
+    (MIXED_LATER, MIXED_LATER_ANSWERS),
+)
 
 
 class Unchanging(list):
@@ -50,6 +74,23 @@ class FormTest(unittest.TestCase):
             (first(2, 14), [3, 2, 1, 3]),
             (first(0, 0), [1, 0]),
             (first(2, 15), [1, -6]),
+            (ways(2, 18), [1, 2]),
+            (ways(2, 19), [1, 0]),
+            (ways(11, 0), [1, -1]),
+            (numbers(105), [3, 2, 3, 7]),
+            (numbers(0), [2, 1, 0]),
+            (numbers(1), [1, 0]),
+            (numbers(1831), [1, -1]),
+            (all_sets(18), [1, 2]),
+            (all_sets(1831), [1, -1]),
+            (pieces(105), [5, 2, 1, 7, 8, 10]),
+            (pieces(0), [1, 0]),
+            (pieces(1831), [1, -1]),
+            (gaps(), [1, 0]),
+            (rid(105), [4, 3, 8, 9, 10]),
+            (rid(0), [1, 0]),
+            (rid(1), [1, -6]),
+            (rid(1831), [1, -1]),
         ):
             self.assertEqual(tornleaves.book.answers(call), given_back)
 
@@ -60,38 +101,47 @@ class FormTest(unittest.TestCase):
         )
 
     def test_forty_calls(self):
-        self.assertEqual(len(MIXED), 40)
-        self.assertEqual(ask(*MIXED), MIXED_ANSWERS)
-        expected = flat([[len(answered)] + answered for answered in MIXED_ANSWERS])
-        self.assertEqual(tornleaves.book.answers(flat(MIXED)), expected)
+        for line, told in LINES:
+            self.assertEqual(len(line), 40)
+            self.assertEqual(ask(*line), told)
+            expected = flat([[len(answered)] + answered for answered in told])
+            self.assertEqual(tornleaves.book.answers(flat(line)), expected)
 
     def test_every_beginning_of_the_line(self):
-        for length in range(1, 41):
-            self.assertEqual(ask(*MIXED[:length]), MIXED_ANSWERS[:length])
+        for line, told in LINES:
+            for length in range(1, 41):
+                self.assertEqual(ask(*line[:length]), told[:length])
 
     def test_a_list_of_whole_numbers(self):
-        given_back = tornleaves.book.answers(flat(MIXED))
-        self.assertIs(type(given_back), list)
-        self.assertEqual({type(number) for number in given_back}, {int})
+        for line, told in LINES:
+            given_back = tornleaves.book.answers(flat(line))
+            self.assertIs(type(given_back), list)
+            self.assertEqual({type(number) for number in given_back}, {int})
 
 
 class NothingElseTest(unittest.TestCase):
     def test_what_is_handed_in_is_not_changed(self):
-        handed_in = flat(MIXED)
-        tornleaves.book.answers(handed_in)
-        self.assertEqual(handed_in, flat(MIXED))
+        for line, told in LINES:
+            handed_in = flat(line)
+            tornleaves.book.answers(handed_in)
+            self.assertEqual(handed_in, flat(line))
 
     def test_not_for_a_while_either(self):
-        self.assertEqual(
-            tornleaves.book.answers(Unchanging(flat(MIXED))),
-            tornleaves.book.answers(flat(MIXED)),
-        )
+        for line, told in LINES:
+            self.assertEqual(
+                tornleaves.book.answers(Unchanging(flat(line))),
+                tornleaves.book.answers(flat(line)),
+            )
 
     def test_nothing_is_kept(self):
-        handed_in = flat(MIXED)
-        once = tornleaves.book.answers(handed_in)
-        self.assertEqual(tornleaves.book.answers(handed_in), once)
-        self.assertEqual(ask(shows(), sums(), tear(10)), [[0], [0, 210], [19, 20]])
+        for line, told in LINES:
+            handed_in = flat(line)
+            once = tornleaves.book.answers(handed_in)
+            self.assertEqual(tornleaves.book.answers(handed_in), once)
+            self.assertEqual(
+                ask(shows(), sums(), gaps(), tear(10), rid(42)),
+                [[0], [0, 210], [0], [19, 20], [1, 1]],
+            )
 
     def test_what_is_given_back_is_new_each_time(self):
         once = tornleaves.book.answers([3])
@@ -101,8 +151,22 @@ class NothingElseTest(unittest.TestCase):
     def test_prints_nothing(self):
         out = io.StringIO()
         with contextlib.redirect_stdout(out), contextlib.redirect_stderr(out):
-            tornleaves.book.answers(flat(MIXED))
+            for line, told in LINES:
+                tornleaves.book.answers(flat(line))
         self.assertEqual(out.getvalue(), "")
+
+
+class DelayTest(unittest.TestCase):
+    # Far above what such a line takes, and far below what going through all sets of 30 leaves would.
+    SECONDS = 20
+
+    def test_lines_of_forty_calls_on_the_largest_book(self):
+        for call in (ways(15, 917), ways(29, 1771), all_sets(917), numbers(917), pieces(917), rid(917), rid(1829)):
+            line = flat([book(30), tear(3)] + [call] * 38)
+            begun = time.monotonic()
+            once = tornleaves.book.answers(line)
+            self.assertLess(time.monotonic() - begun, self.SECONDS, call)
+            self.assertEqual(tornleaves.book.answers(line), once)
 
 
 if __name__ == "__main__":

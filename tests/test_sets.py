@@ -3,13 +3,9 @@
 import itertools
 import unittest
 
-from calls import LARGEST, ask, ask_many, book, can, first, put, shows, sums, tear
+from calls import LARGEST, ask, ask_many, book, can, first, pages_sum, put, shows, sums, tear
 
 LARGEST_SEARCHED = 10
-
-
-def pages_sum(leaves):
-    return sum(2 * k - 1 + 2 * k for k in leaves)
 
 
 def is_before(one, other):
